@@ -431,9 +431,15 @@ func TestNoSession(t *testing.T) {
 	if r, _ := s.Do(st, 1, 0, []string{"EXEC"}); show(r) != show(list(word("PONG"))) {
 		t.Errorf("the queue was changed without a store: %v", r)
 	}
-	// A store that no call made answers zero, and so is what is told of it.
-	if r, _ := sess.New().Do(new(store.Store), 1, 0, []string{"GET", "k"}); show(r) != show(api.Reply{}) {
-		t.Errorf("%v", r)
+	// A store that no call made does nothing, and answers zero: there is no group.
+	s = sess.New()
+	for _, x := range []struct {
+		args []string
+		want api.Reply
+	}{{[]string{"GET", "k"}, api.Reply{}}, {[]string{"SET", "k", "1"}, api.Reply{}}, {[]string{"MULTI"}, ok()}, {[]string{"SET", "k", "1"}, queued()}, {[]string{"EXEC"}, list(api.Reply{})}} {
+		if r, g := s.Do(new(store.Store), 1, 0, x.args); show(r) != show(x.want) || show(g) != show(sess.Group{}) {
+			t.Errorf("%q: %v, %v", x.args, r, g)
+		}
 	}
 	sess.Replay(nil, sess.Group{Commands: [][]string{{"SET", "k", "1"}}})
 	sess.Replay(new(store.Store), sess.Group{Commands: [][]string{{"SET", "k", "1"}, nil}})

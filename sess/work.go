@@ -22,11 +22,14 @@ func (w *work) do(args []string) api.Reply {
 		return done()
 	}
 	reply := w.store.Do(w.group.Now, w.group.Draw, args)
-	if spec.Writes && reply.Kind != api.RError {
+	if spec.Writes && wasDone(reply) {
 		w.group.Commands = append(w.group.Commands, copied(args))
 	}
 	return reply
 }
+
+// wasDone tells whether a command of this reply was done: a store that no call made does nothing, and its reply has no kind.
+func wasDone(reply api.Reply) bool { return reply.Kind != 0 && reply.Kind != api.RError }
 
 // told is the group of what was done; zero, if nothing is to be replayed.
 func (w *work) told() Group {
